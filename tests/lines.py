@@ -21,6 +21,27 @@ def fits(number):
     return [3, 1, number, 0]
 
 
+def check(*plan):
+    return [4, len(plan), *plan, 0]
+
+
+def best():
+    return [5, 0, 0]
+
+
+def has(number):
+    return [6, 1, number, 0]
+
+
+def why():
+    return [7, 0, 0]
+
+
+def office(wrong, things, claims):
+    """The calls that begin an office with these things and claims."""
+    return [begins(wrong)] + [thing(*features) for features in things] + [claim(*features) for features in claims]
+
+
 def line(*calls):
     """One list of all these calls."""
     return [number for call in calls for number in call]
